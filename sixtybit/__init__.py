@@ -1,0 +1,1 @@
+"""A processor of sixty-bit words; sixtybit.machine holds the calls."""
