@@ -6,9 +6,8 @@ from sixtybit.words import MEMORY_WORDS, ONES60
 BEGIN = 0
 LOAD = 1
 LOOK = 2
-RUN = 3
 
-# How many numbers a call has, by its number; cy_load tells its own.
+# How many numbers a call has: cy_begin, cy_look and cy_run; cy_load tells its own.
 LENGTHS = {0: 1, 2: 3, 3: 2}
 
 MOST_STEPS = 10000000

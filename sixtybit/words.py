@@ -63,4 +63,4 @@ def ones_in(word):
 
 
 def upper_ones(n):
-    return ONES60 - (ONES60 >> min(n, 60))
+    return ONES60 - (ONES60 >> n)

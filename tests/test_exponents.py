@@ -209,6 +209,7 @@ class Sums(Halves):
             self.check_sum(number(5, 3), zero, number(5, 3), 0, number(5, 3))
         self.check_sum(number(5, 0), number(0, 10), 0, number(5 * 2 ** 38, -38), 0)
         self.check_sum(number(5, 0), number(0, 100), 0, 0, 0)
+        self.check_sum(number(1, -48), number(0, 0), 0, number(1, -48), 0)
 
     def test_a_bit_below(self):
         self.check_sum(number(TOP, 0), number(1, -1), number(TOP, 0), number(TOP, -48), number(TOP + 1, 0))

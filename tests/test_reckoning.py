@@ -4,7 +4,7 @@ import random
 import unittest
 from fractions import Fraction
 
-from tests.helper import ONES18, ONES60, OUT, begin, load, look, one, run, told, two, word, NOTHING
+from tests.helper import NOTHING, ONES18, ONES60, OUT, begin, load, look, one, run, told, two, word
 
 INFINITE, INDEFINITE = 0o3777, 0o1777
 SEED = 6600
@@ -158,8 +158,7 @@ def shifted(x, b, left_first):
 def expected(x, y, b):
     """X6 and B3 behind each number from 10 to 47 (20, 21 and 43 apart), with X1 = x, X2 = y, B3 = b."""
     no = ONES60 - y
-    result = {0o10: y, 0o11: x & y, 0o12: x | y, 0o13: x ^ y, 0o14: no, 0o15: x & no, 0o16: x | no, 0o17: x ^ no}
-    result[0o10] = x
+    result = {0o10: x, 0o11: x & y, 0o12: x | y, 0o13: x ^ y, 0o14: no, 0o15: x & no, 0o16: x | no, 0o17: x ^ no}
     result[0o22], result[0o23] = shifted(y, b, True), shifted(y, b, False)
     result[0o27] = packed(y, b)
     result[0o30], result[0o32], result[0o34] = sums(x, y)

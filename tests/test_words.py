@@ -100,7 +100,8 @@ class ShiftsByB(unittest.TestCase):
 
     def test_left_around(self):
         for fm, n in ((0o22, 3), (0o23, below(3)), (0o22, 64 + 3), (0o23, below(64 + 3)), (0o22, 63), (0o23, below(63)),
-                      (0o22, 2 ** 17 - 64 + 3), (0o23, below(2 ** 17 - 64 + 3)), (0o22, 4096 + 3)):
+                      (0o22, 2 ** 17 - 64 + 3), (0o23, below(2 ** 17 - 64 + 3)), (0o22, 4096 + 3),
+                      (0o22, 2 ** 17 - 1), (0o23, 2 ** 17)):
             with self.subTest(fm=oct(fm), n=n):
                 self.assertEqual(self.shifted(fm, n, P), 0o23456701234567012341)
 
