@@ -60,7 +60,12 @@ def perform(m, fm, i, j, k):
 
 
 def run(m, n):
+    """Do up to n steps and keep why that ended; answer how many were done."""
     done = 0
-    while done < n and step(m) == DONE:
-        done = done + 1
+    why = DONE
+    while done < n and why == DONE:
+        why = step(m)
+        if why == DONE:
+            done = done + 1
+    m.why = why
     return done

@@ -1,7 +1,7 @@
-"""Writes programs for the machine and tells what they leave behind.
+"""Writes calls and programs for the machine, and tells what they leave behind.
 
-Only memory can be written and told, so X and B are set by a prelude of
-instructions, and all of X, A and B are stored by a closing piece.
+So that the instructions are tested by themselves, X and B are set by a prelude of
+instructions, and X, A and B are stored by a closing piece, without cy_get and cy_set.
 """
 
 from sixtybit.machine import answers
@@ -9,6 +9,7 @@ from sixtybit.machine import answers
 ONES60 = 2 ** 60 - 1
 ONES18 = 2 ** 18 - 1
 MEMORY = 65536
+MOST = 2 ** 32 - 1
 NOTHING = ((0o46 << 9),)
 STOP = (0,)
 
@@ -68,6 +69,23 @@ def look(at, n):
 
 def run(n):
     return [3, n]
+
+
+def why():
+    return [4]
+
+
+def get(which):
+    return [5, which]
+
+
+def put(which, value):
+    return [6, which, value]
+
+
+def get_all():
+    """The calls that tell each of 0 to 25."""
+    return [get(which) for which in range(26)]
 
 
 def told(*calls):
